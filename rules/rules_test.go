@@ -1,0 +1,121 @@
+// Package rules has only tests: that the program's sources keep to the rules of its language, and use the features that the document's section 'Ways' names.
+package rules
+
+import (
+	"go/ast"
+	"go/parser"
+	"go/token"
+	"io/fs"
+	"os"
+	"path/filepath"
+	"strconv"
+	"strings"
+	"testing"
+)
+
+const root = ".."
+
+// ways returns, for the packages that are built, the features that they use, as the document's section 'Ways' names them.
+func ways() map[string]string {
+	return map[string]string{
+		"text":  "range-string",
+		"codec": "panic recover defer",
+	}
+}
+
+func TestWays(t *testing.T) {
+	for pack, words := range ways() {
+		miss, err := WaysMissing(root, "tollway", []string{pack}, strings.Fields(words))
+		if err != nil {
+			t.Fatal(pack, err)
+		}
+		for _, m := range miss {
+			t.Error(pack, "does not use", m)
+		}
+	}
+}
+
+const library = " bytes cmp container/heap errors iter maps math math/bits slices sort strconv strings sync sync/atomic unicode unicode/utf8 "
+
+// sources returns the program's Go files that are not tests.
+func sources(t *testing.T) []string {
+	var l []string
+	err := filepath.WalkDir(root, func(path string, d fs.DirEntry, err error) error {
+		if err != nil {
+			return err
+		}
+		if d.IsDir() && (d.Name() == "sharedtests" || d.Name() == ".git" || d.Name() == "api") {
+			return fs.SkipDir
+		}
+		if strings.HasSuffix(path, ".go") && !strings.HasSuffix(path, "_test.go") {
+			l = append(l, path)
+		}
+		return nil
+	})
+	if err != nil || len(l) < 54 {
+		t.Fatal(len(l), err)
+	}
+	return l
+}
+
+func TestLanguage(t *testing.T) {
+	for _, path := range sources(t) {
+		b, err := os.ReadFile(path)
+		if err != nil {
+			t.Fatal(err)
+		}
+		if strings.Contains(string(b), "//go:") {
+			t.Error(path, "has a directive")
+		}
+		files := token.NewFileSet()
+		f, err := parser.ParseFile(files, path, b, parser.ParseComments)
+		if err != nil {
+			t.Fatal(err)
+		}
+		for _, i := range f.Imports {
+			name, _ := strconv.Unquote(i.Path.Value)
+			if !strings.HasPrefix(name, "tollway/") && !strings.Contains(library, " "+name+" ") {
+				t.Error(path, "imports", name)
+			}
+		}
+		for _, d := range f.Decls {
+			look(t, files, d)
+		}
+	}
+}
+
+// look reports what a declaration at the package level must not be or contain.
+func look(t *testing.T, files *token.FileSet, d ast.Decl) {
+	at := files.Position(d.Pos())
+	switch x := d.(type) {
+	case *ast.FuncDecl:
+		if n := files.Position(x.End()).Line - at.Line + 1; n > 60 {
+			t.Error(at, x.Name.Name, "has lines:", n)
+		}
+		if x.Name.Name == "init" && x.Recv == nil {
+			t.Error(at, "init")
+		}
+	case *ast.GenDecl:
+		for _, s := range x.Specs {
+			v, ok := s.(*ast.ValueSpec)
+			if !ok || x.Tok != token.VAR {
+				continue
+			}
+			for _, e := range v.Values {
+				if _, ok := e.(*ast.CompositeLit); !ok {
+					t.Error(at, "a variable at the package level that is no table")
+				}
+			}
+			if len(v.Values) == 0 {
+				t.Error(at, "a variable at the package level without a value")
+			}
+		}
+	}
+	ast.Inspect(d, func(n ast.Node) bool {
+		switch n.(type) {
+		case *ast.GoStmt, *ast.ChanType, *ast.SelectStmt:
+			t.Error(files.Position(n.Pos()), "a goroutine or a channel")
+		}
+		return true
+	})
+}
