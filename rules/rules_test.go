@@ -20,6 +20,8 @@ func ways() map[string]string {
 	return map[string]string{
 		"text":  "range-string",
 		"codec": "panic recover defer",
+		"money": "variadic",
+		"clock": "array",
 	}
 }
 
