@@ -22,6 +22,8 @@ func ways() map[string]string {
 		"codec": "panic recover defer",
 		"money": "variadic",
 		"clock": "array",
+		"span":  "variadic",
+		"match": "label",
 	}
 }
 
