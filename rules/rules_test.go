@@ -18,12 +18,14 @@ const root = ".."
 // ways returns, for the packages that are built, the features that they use, as the document's section 'Ways' names them.
 func ways() map[string]string {
 	return map[string]string{
-		"text":  "range-string",
-		"codec": "panic recover defer",
-		"money": "variadic",
-		"clock": "array",
-		"span":  "variadic",
-		"match": "label",
+		"text":   "range-string",
+		"codec":  "panic recover defer",
+		"money":  "variadic",
+		"clock":  "array",
+		"span":   "variadic",
+		"match":  "label",
+		"graph":  "closure",
+		"digest": "range-integer",
 	}
 }
 
