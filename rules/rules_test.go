@@ -15,28 +15,75 @@ import (
 
 const root = ".."
 
-// ways returns, for the packages that are built, the features that they use, as the document's section 'Ways' names them.
-func ways() map[string]string {
-	return map[string]string{
-		"text":   "range-string",
-		"codec":  "panic recover defer",
-		"money":  "variadic",
-		"clock":  "array",
-		"span":   "variadic",
-		"match":  "label",
-		"graph":  "closure",
-		"digest": "range-integer",
-	}
+// landed is the number of packages that are built.
+const landed = 10
+
+// ways has the features that each package uses, as the document's section 'Ways' names them.
+var ways = [][2]string{
+	{"text", "range-string"},
+	{"codec", "panic recover defer"},
+	{"money", "variadic"},
+	{"clock", "array"},
+	{"span", "variadic"},
+	{"match", "label"},
+	{"graph", "closure"},
+	{"digest", "range-integer"},
+	{"device", "generic-function"},
+	{"plate", "map"},
+	{"tag", "range-string"},
+	{"class", "array"},
+	{"detect", "fallthrough"},
+	{"group", "range-function"},
+	{"score", "closure"},
+	{"fuse", "embedding promoted"},
+	{"passage", "map"},
+	{"topology", "fallthrough"},
+	{"chain", "label"},
+	{"infer", "copy"},
+	{"trip", "iota"},
+	{"tariff", "struct-compared"},
+	{"occupancy", "range-integer"},
+	{"discount", "closure"},
+	{"cap", "generic-type"},
+	{"zone", "range-function"},
+	{"session", "fallthrough"},
+	{"parkfee", "method-value"},
+	{"permit", "generic-function"},
+	{"stay", "map"},
+	{"price", "variadic"},
+	{"ledger", "map"},
+	{"account", "copy"},
+	{"bill", "method-value"},
+	{"refill", "iota"},
+	{"dispute", "generic-function"},
+	{"post", "embedding promoted"},
+	{"notice", "fallthrough"},
+	{"appeal", "array"},
+	{"retain", "map"},
+	{"evidence", "copy"},
+	{"agency", "panic recover defer"},
+	{"exchange", "struct-compared"},
+	{"recon", "label"},
+	{"relief", "array"},
+	{"event", "panic recover defer"},
+	{"batch", "method-value"},
+	{"engine", "fallthrough"},
+	{"store", "panic recover defer"},
+	{"audit", "map"},
+	{"report", "variadic"},
+	{"trace", "closure"},
+	{"scenario", "range-string"},
+	{"check", "embedding promoted"},
 }
 
 func TestWays(t *testing.T) {
-	for pack, words := range ways() {
-		miss, err := WaysMissing(root, "tollway", []string{pack}, strings.Fields(words))
+	for _, x := range ways[:landed] {
+		miss, err := WaysMissing(root, "tollway", []string{x[0]}, strings.Fields(x[1]))
 		if err != nil {
-			t.Fatal(pack, err)
+			t.Fatal(x[0], err)
 		}
 		for _, m := range miss {
-			t.Error(pack, "does not use", m)
+			t.Error(x[0], "does not use", m)
 		}
 	}
 }
