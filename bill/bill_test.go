@@ -10,6 +10,7 @@ import (
 
 	"tollway/api"
 	"tollway/cap"
+	"tollway/fresh"
 )
 
 func charge(vehicle string, time, cents int) api.Charge {
@@ -73,7 +74,7 @@ func TestCapped(t *testing.T) {
 	if e != api.OK {
 		t.Fatal(int(e))
 	}
-	want := fresh(l)
+	want := fresh.Charges(l)
 	reduce(&want[1], 100) // 300 at 100 and 100 at 150, of the same account, are before it
 	reduce(&want[4], 500)
 	if !reflect.DeepEqual(r, want) || !slices.Equal(r[1].Lines, []api.Line{{Text: "base", Cents: 300}, {Text: "cap", Cents: -200}}) || r[1].Cents != 100 || r[5].Cents != 900 || r[3].Cents != 900 {
@@ -93,7 +94,7 @@ func TestCapped(t *testing.T) {
 	}{
 		{func(c *api.Config, l []api.Charge) { l[3].Cents, l[3].Time = -1, -1 }, api.ErrMoney}, {func(c *api.Config, l []api.Charge) { l[3].Time = -1 }, api.ErrTime}, {func(c *api.Config, l []api.Charge) { c.Caps[0].Name, l[3].Cents = "", -1 }, api.ErrName}, {func(c *api.Config, l []api.Charge) { c.Caps = make([]api.Cap, 13) }, api.ErrLimit}, {func(c *api.Config, l []api.Charge) { c.Accounts, l[3].Cents = nil, api.MaxMoney+1 }, api.ErrMoney},
 	} {
-		c, l := config(), fresh(l)
+		c, l := config(), fresh.Charges(l)
 		x.change(&c, l)
 		if r, e := Capped(c, l); len(r) != 0 || e != x.e {
 			t.Error(i, int(e))

@@ -1,0 +1,46 @@
+// Package fresh copies values of api that contain lists, so that results share no memory with arguments.
+package fresh
+
+import (
+	"slices"
+
+	"tollway/api"
+)
+
+// list copies a list whose elements are copied by a function.
+func list[T any](l []T, copied func(T) T) []T {
+	r := slices.Clone(l)
+	for i := range r {
+		r[i] = copied(r[i])
+	}
+	return r
+}
+
+// Passage copies a passage.
+func Passage(p api.Passage) api.Passage {
+	p.Sources = slices.Clone(p.Sources)
+	return p
+}
+
+// Passages copies passages.
+func Passages(l []api.Passage) []api.Passage { return list(l, Passage) }
+
+// Charge copies a charge.
+func Charge(x api.Charge) api.Charge {
+	x.Lines = slices.Clone(x.Lines)
+	return x
+}
+
+// Charges copies charges.
+func Charges(l []api.Charge) []api.Charge { return list(l, Charge) }
+
+// Entry copies an entry of a ledger.
+func Entry(e api.Entry) api.Entry {
+	e.Posts = slices.Clone(e.Posts)
+	return e
+}
+
+// Books copies books.
+func Books(b api.Books) api.Books {
+	return api.Books{Ledger: api.Ledger{Entries: list(b.Ledger.Entries, Entry)}, Done: Charges(b.Done)}
+}
