@@ -40,6 +40,15 @@ func Entry(e api.Entry) api.Entry {
 	return e
 }
 
+// Image copies an image.
+func Image(im api.Image) api.Image {
+	im.Hold = slices.Clone(im.Hold)
+	return im
+}
+
+// Images copies images.
+func Images(l []api.Image) []api.Image { return list(l, Image) }
+
 // Books copies books.
 func Books(b api.Books) api.Books {
 	return api.Books{Ledger: api.Ledger{Entries: list(b.Ledger.Entries, Entry)}, Done: Charges(b.Done)}

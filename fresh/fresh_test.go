@@ -75,6 +75,8 @@ func TestCopies(t *testing.T) {
 	apart(t, Charge)
 	apart(t, Charges)
 	apart(t, Entry)
+	apart(t, Image)
+	apart(t, Images)
 	apart(t, Books)
 }
 

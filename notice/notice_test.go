@@ -36,7 +36,7 @@ func TestCheck(t *testing.T) {
 		if day, ok := Due(w, nil, fresh(0)); day != 0 || ok {
 			t.Error("Due", i, day)
 		}
-		if c, e := Advance(w, nil, fresh(0), -1); c != fresh(0) || e != x.e {
+		if c, e := Advance(w, nil, fresh(0), -1); c != (api.Case{}) || e != x.e {
 			t.Error("Advance", i, c, int(e))
 		}
 	}
@@ -129,10 +129,10 @@ func TestAdvance(t *testing.T) {
 		w.Limit = x.limit
 		c, want := fresh(0), fresh(0)
 		x.change(&c)
-		want = c
 		if x.e == api.OK {
-			want = fresh(0)
 			x.want(&want)
+		} else {
+			want = api.Case{} // R3: the first parameter is not the case
 		}
 		if r, e := Advance(w, nil, c, x.day); r != want || e != x.e {
 			t.Error(i, r, int(e), "want", want)
