@@ -49,6 +49,23 @@ func Image(im api.Image) api.Image {
 // Images copies images.
 func Images(l []api.Image) []api.Image { return list(l, Image) }
 
+// File copies a file of an agency.
+func File(f api.File) api.File {
+	f.Records = slices.Clone(f.Records)
+	return f
+}
+
+// Files copies files of an agency.
+func Files(l []api.File) []api.File { return list(l, File) }
+
+// Partner copies the state of an exchange.
+func Partner(p api.Partner) api.Partner {
+	p.Waiting = Files(p.Waiting)
+	p.Ours = slices.Clone(p.Ours)
+	p.Theirs = slices.Clone(p.Theirs)
+	return p
+}
+
 // Books copies books.
 func Books(b api.Books) api.Books {
 	return api.Books{Ledger: api.Ledger{Entries: list(b.Ledger.Entries, Entry)}, Done: Charges(b.Done)}

@@ -77,6 +77,9 @@ func TestCopies(t *testing.T) {
 	apart(t, Entry)
 	apart(t, Image)
 	apart(t, Images)
+	apart(t, File)
+	apart(t, Files)
+	apart(t, Partner)
 	apart(t, Books)
 }
 
