@@ -66,6 +66,95 @@ func Partner(p api.Partner) api.Partner {
 	return p
 }
 
+// Trip copies a trip.
+func Trip(x api.Trip) api.Trip {
+	x.Stops = slices.Clone(x.Stops)
+	return x
+}
+
+// Zone copies a zone.
+func Zone(z api.Zone) api.Zone {
+	z.Hours = slices.Clone(z.Hours)
+	z.Steps = slices.Clone(z.Steps)
+	return z
+}
+
+// Device copies a device.
+func Device(d api.Device) api.Device {
+	d.Offsets = slices.Clone(d.Offsets)
+	d.Down = slices.Clone(d.Down)
+	return d
+}
+
+// Tariff copies a tariff.
+func Tariff(x api.Tariff) api.Tariff {
+	x.Bands = slices.Clone(x.Bands)
+	x.Rates = slices.Clone(x.Rates)
+	return x
+}
+
+// Permit copies a permit.
+func Permit(p api.Permit) api.Permit {
+	p.Plates = slices.Clone(p.Plates)
+	p.Hours = slices.Clone(p.Hours)
+	return p
+}
+
+// Account copies an account.
+func Account(a api.Account) api.Account {
+	a.Owned = slices.Clone(a.Owned)
+	return a
+}
+
+// Config copies a configuration.
+func Config(c api.Config) api.Config {
+	c.Top.Net.Points = slices.Clone(c.Top.Net.Points)
+	c.Top.Net.Links = slices.Clone(c.Top.Net.Links)
+	c.Top.Systems = slices.Clone(c.Top.Systems)
+	c.Devices = list(c.Devices, Device)
+	c.Classes = slices.Clone(c.Classes)
+	c.Tags = slices.Clone(c.Tags)
+	c.Tariffs = list(c.Tariffs, Tariff)
+	c.Scale.Up = slices.Clone(c.Scale.Up)
+	c.Scale.Down = slices.Clone(c.Scale.Down)
+	c.Scale.Parts = slices.Clone(c.Scale.Parts)
+	c.Discounts = slices.Clone(c.Discounts)
+	c.Caps = slices.Clone(c.Caps)
+	c.Zones = list(c.Zones, Zone)
+	c.Permits = list(c.Permits, Permit)
+	c.Accounts = list(c.Accounts, Account)
+	c.Reliefs = slices.Clone(c.Reliefs)
+	c.Holidays = slices.Clone(c.Holidays)
+	c.Law.Days = slices.Clone(c.Law.Days)
+	c.Law.Fees = slices.Clone(c.Law.Fees)
+	c.Keeping = slices.Clone(c.Keeping)
+	return c
+}
+
+// Result copies a result.
+func Result(r api.Result) api.Result {
+	return api.Result{
+		Passages:   Passages(r.Passages),
+		Rejects:    slices.Clone(r.Rejects),
+		Trips:      list(r.Trips, Trip),
+		Stays:      slices.Clone(r.Stays),
+		Charges:    Charges(r.Charges),
+		Exclusions: slices.Clone(r.Exclusions),
+	}
+}
+
+// State copies a state.
+func State(s api.State) api.State {
+	s.Config = Config(s.Config)
+	s.Seen = slices.Clone(s.Seen)
+	s.Rejects = slices.Clone(s.Rejects)
+	s.Parked = slices.Clone(s.Parked)
+	s.Result = Result(s.Result)
+	s.Books = Books(s.Books)
+	s.Cases = slices.Clone(s.Cases)
+	return s
+}
+
 // Books copies books.
 func Books(b api.Books) api.Books {
 	return api.Books{Ledger: api.Ledger{Entries: list(b.Ledger.Entries, Entry)}, Done: Charges(b.Done)}

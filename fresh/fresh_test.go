@@ -80,6 +80,15 @@ func TestCopies(t *testing.T) {
 	apart(t, File)
 	apart(t, Files)
 	apart(t, Partner)
+	apart(t, Trip)
+	apart(t, Zone)
+	apart(t, Device)
+	apart(t, Tariff)
+	apart(t, Permit)
+	apart(t, Account)
+	apart(t, Config)
+	apart(t, Result)
+	apart(t, State)
 	apart(t, Books)
 }
 
