@@ -153,6 +153,16 @@ func TestUnlink(t *testing.T) {
 	}
 }
 
+// P33.5: the first element of an account
+func TestUnlinkFirst(t *testing.T) {
+	l := []api.Account{acc("a", own("AB12", 0, 100), own("CD34", 0, 100))}
+	for at, want := range map[int]string{50: "a(AB120-50 CD340-100 )", 0: "a(CD340-100 )"} {
+		if r, e := Unlink(l, "a", "AB12", at); e != api.OK || fmtAll(r) != want {
+			t.Error(at, fmtAll(r), int(e))
+		}
+	}
+}
+
 // P33.6, P33.7
 func TestOneOwner(t *testing.T) {
 	r := rand.New(rand.NewSource(1))

@@ -70,6 +70,9 @@ func TestPrint(t *testing.T) {
 		if e != want || e == api.OK && len(s) != api.MaxText || e != api.OK && s != "" {
 			t.Error(n, len(s), int(e))
 		}
+		if g, line, h := Parse(s); e == api.OK && (!reflect.DeepEqual(g, f) || line != 0 || h != api.OK) {
+			t.Error(line, int(h))
+		}
 	}
 }
 

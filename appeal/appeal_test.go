@@ -139,6 +139,10 @@ func TestDecide(t *testing.T) {
 	if x, e := Decide(law(), nil, full, false, 30); x.Paused != api.MaxDay || e != api.OK {
 		t.Error(x, int(e))
 	}
+	full.Paused = api.MaxDay
+	if x, e := Decide(law(), nil, full, false, 30); x.Paused != api.MaxDay || e != api.OK {
+		t.Error(x, int(e))
+	}
 	if x, e := Decide(law(), nil, pending(), false, 20); x.Paused != 0 || x.Since != 7 || e != api.OK {
 		t.Error(x, int(e))
 	}

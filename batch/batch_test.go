@@ -76,6 +76,19 @@ func TestCheck(t *testing.T) {
 		}
 	}
 	c := sample.Config()
+	c.Discounts, c.Permits, c.Holidays = nil, nil, nil
+	for i := range api.MaxList {
+		p := sample.Config().Permits[0]
+		p.Name = "p" + strconv.Itoa(i)
+		c.Permits, c.Holidays = append(c.Permits, p), append(c.Holidays, i)
+	}
+	for i := range api.MaxGroup {
+		c.Discounts = append(c.Discounts, api.Discount{Name: "d" + strconv.Itoa(i), Kind: api.KFree})
+	}
+	if e := Check(c); e != api.OK {
+		t.Error("the limits are permitted", int(e))
+	}
+	c = sample.Config()
 	c.Gap, c.Weak, c.Holidays = 3600, 1000, []int{-5, 0, 99999999}
 	if e := Check(c); e != api.OK {
 		t.Error(int(e))

@@ -66,6 +66,15 @@ func TestDayOf(t *testing.T) {
 			t.Error(x, day, int(e))
 		}
 	}
+	for m := 1; m <= 12; m++ {
+		last := time.Date(2001, time.Month(m)+1, 0, 0, 0, 0, 0, time.UTC).Day()
+		if _, e := DayOf(2001, m, last); e != api.OK {
+			t.Error(m, int(e))
+		}
+		if day, e := DayOf(2001, m, last+1); day != 0 || e != api.ErrArg {
+			t.Error(m, day, int(e))
+		}
+	}
 	if day, e := DayOf(2400, 2, 29); e != api.OK || day != int(time.Date(2400, 2, 29, 0, 0, 0, 0, time.UTC).Sub(time.Date(2200, 1, 1, 0, 0, 0, 0, time.UTC)).Hours()/24)+int(time.Date(2200, 1, 1, 0, 0, 0, 0, time.UTC).Sub(time.Date(2001, 1, 1, 0, 0, 0, 0, time.UTC)).Hours()/24) {
 		t.Error(day, int(e))
 	}

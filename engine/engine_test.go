@@ -148,6 +148,27 @@ func TestDays(t *testing.T) {
 	}
 }
 
+// P48.2: a charge at the end of a day belongs to the next one; a charge that is gone is voided at the begin of the day of the closing.
+func TestTimes(t *testing.T) {
+	s := do1(t, start(t), sample.Detect("topen", 1, day, sample.Tag(1), 0), closing(1))
+	if len(s.Books.Done) != 0 || Balance(s, "ann") != 0 {
+		t.Error(s.Books)
+	}
+	if s = do1(t, s, closing(2)); len(s.Books.Done) != 1 || s.Books.Ledger.Entries[0].Time != day {
+		t.Error(s.Books)
+	}
+	s = do1(t, s, sample.Detect("topen", 1, day+1, sample.Tag(1), 0), closing(7))
+	if len(s.Books.Done) != 0 || Balance(s, "ann") != 0 || len(s.Books.Ledger.Entries) != 2 || s.Books.Ledger.Entries[1].Time != 7*day {
+		t.Error(s.Books)
+	}
+	c := sample.Config()
+	c.Tariffs[0].Rates[0].Cents = 1
+	z, _ := New(c)
+	if z = do1(t, z, sample.Detect("copen", 1, 50, "XY99", 0), closing(1)); len(z.Cases) != 1 || z.Cases[0].Owed != 1 {
+		t.Error(z.Cases)
+	}
+}
+
 // P48.2: cases
 func TestCases(t *testing.T) {
 	s := do1(t, start(t), sample.Detect("copen", 1, 50, "XY99", 0), sample.Detect("copen", 2, 2000, "ZZ11", 0), sample.Detect("topen", 3, 4000, sample.Tag(1), 0), sample.Detect("copen", 4, day, "XY99", 0), closing(1))

@@ -201,6 +201,24 @@ func TestWeak(t *testing.T) {
 	}
 }
 
+// P16.1, P16.2: scores below the greatest one, and the limit
+func TestScores(t *testing.T) {
+	far := photo("XY99", 105, 2)
+	f := []api.Seen{tagged(1, 100, 1), photo("AB12", 103, 1), far}
+	ps, _, cost, margin, _ := Vehicles(config(), f)
+	// The pairs cost 40 and 110; the other plate group stays alone for 200.
+	if cost != 240 || margin != 70 || len(ps) != 2 || ps[0].Score != 600+2*70-40 || ps[1].Score != 600+2*70-200 {
+		t.Error(cost, margin, ps)
+	}
+	for weak, want := range map[int]int{539: 2, 540: 2, 541: 1, 700: 1, 701: 0} {
+		c := config()
+		c.Weak = weak
+		if x := Frame(c, f); len(x.Passages) != want {
+			t.Error(weak, x)
+		}
+	}
+}
+
 // P16.2: the identifier is that of the first source, which may be the loop; the class of the loop applies if there is one.
 func TestLoopFirst(t *testing.T) {
 	a := photo("AB12", 100, 1)
@@ -283,6 +301,14 @@ func TestOther(t *testing.T) {
 	c := photo("AB12", 97, 1)
 	c.D.Score = 1000
 	if s, n, ok := Other(config(), []api.Seen{a, c, b}, 0); s != "XY99" || n != 310 || !ok {
+		t.Error(s, n, ok)
+	}
+	// An alternative that costs nothing more is the best one, and no plate group comes later.
+	four := []api.Seen{tagged(1, 100, 1), tagged(2, 100, 1), photo("AB12", 100, 1), photo("XY99", 100, 1)}
+	for i := range four {
+		four[i].D.Score = 1000
+	}
+	if s, n, ok := Other(config(), four, 0); s != "XY99" || n != 0 || !ok {
 		t.Error(s, n, ok)
 	}
 	// A tag group that stays alone in the best assignment has the other choices.

@@ -109,6 +109,17 @@ func TestPart(t *testing.T) {
 	}
 }
 
+// P23.5: the first level need not have the whole price.
+func TestFirstPart(t *testing.T) {
+	s := example()
+	s.Parts[0] = 700
+	for level, want := range map[int]int{0: 700, 1: 1500, -1: 1000, 3: 1000} {
+		if n := Part(s, level); n != want {
+			t.Error(level, n)
+		}
+	}
+}
+
 // P23.6 to P23.8
 func TestConsequences(t *testing.T) {
 	r := rand.New(rand.NewSource(1))

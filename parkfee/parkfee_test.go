@@ -74,8 +74,8 @@ func TestSteps(t *testing.T) {
 func TestDays(t *testing.T) {
 	office := example()
 	office.Hours = []api.Window{{Days: 31, From: 480, To: 1080}}
-	free := example()
-	free.DayMax = 0
+	free, one := example(), example()
+	free.DayMax, one.DayMax = 0, 1
 	for i, x := range []struct {
 		z    api.Zone
 		i    api.Interval
@@ -83,7 +83,7 @@ func TestDays(t *testing.T) {
 		e    api.Errno
 	}{
 		{example(), iv(0, 7200), []int{350}, api.OK}, {example(), iv(0, 172800), []int{1000, 1000}, api.OK}, {example(), iv(84600, 88200), []int{100, 100}, api.OK}, {example(), iv(86399, 86401), []int{100, 0}, api.OK}, {free, iv(0, 86400), []int{3650}, api.OK}, {free, iv(86400-3600, 86400+3600), []int{200, 150}, api.OK},
-		{office, iv(0, 28800), []int{0}, api.OK}, {office, iv(64000, 86400+28801), []int{100, 0}, api.OK}, {office, iv(64000, 86400+30000), []int{100, 100}, api.OK}, {office, iv(5*86400, 7*86400+1), []int{0, 0, 0}, api.OK}, {office, iv(api.MaxTime-1, api.MaxTime), []int{0}, api.OK},
+		{office, iv(0, 28800), []int{0}, api.OK}, {one, iv(0, 86401), []int{1, 1}, api.OK}, {one, iv(80000, 90000), []int{1, 1}, api.OK}, {office, iv(64000, 86400+28801), []int{100, 0}, api.OK}, {office, iv(64000, 86400+30000), []int{100, 100}, api.OK}, {office, iv(5*86400, 7*86400+1), []int{0, 0, 0}, api.OK}, {office, iv(api.MaxTime-1, api.MaxTime), []int{0}, api.OK},
 		{example(), iv(5, 5), nil, api.ErrTime}, {example(), iv(0, 366*86400+1), nil, api.ErrLimit}, {dear(), iv(0, 1<<19), nil, api.OK}, {dear(), iv(0, 1<<19+1), nil, api.ErrMoney}, {dear(), iv(-1, 1<<30), nil, api.ErrTime},
 	} {
 		l, e := Days(x.z, x.i)
@@ -102,8 +102,8 @@ func TestDays(t *testing.T) {
 
 // P28.3
 func TestLongest(t *testing.T) {
-	stay := example()
-	stay.MaxStay = 600
+	stay, short := example(), example()
+	stay.MaxStay, short.MaxStay = 600, 1
 	gratis := api.Zone{Name: "z", Steps: []api.Step{step(0, 60, 0)}}
 	night := example()
 	night.Hours = []api.Window{{Days: 1, From: 480, To: 1080}}
@@ -112,7 +112,7 @@ func TestLongest(t *testing.T) {
 		from, cents, t int
 		e              api.Errno
 	}{
-		{example(), 0, 350, 7200, api.OK}, {example(), 0, 99, 0, api.ErrFunds}, {example(), 0, 100, 1800, api.OK}, {example(), 0, 349, 3600, api.OK}, {example(), 0, 0, 0, api.ErrFunds}, {stay, 0, 1000, 600, api.OK}, {stay, 0, 99, 0, api.ErrFunds}, {gratis, 5, 0, 366 * 86400, api.OK}, {gratis, 86400, 0, 367 * 86400, api.OK}, {gratis, api.MaxTime - 1, 0, api.MaxTime, api.OK}, {gratis, api.MaxTime - 500000, 0, api.MaxTime, api.OK},
+		{example(), 0, 350, 7200, api.OK}, {example(), 0, 99, 0, api.ErrFunds}, {example(), 0, 100, 1800, api.OK}, {example(), 0, 349, 3600, api.OK}, {example(), 0, 0, 0, api.ErrFunds}, {stay, 0, 1000, 600, api.OK}, {stay, 0, 99, 0, api.ErrFunds}, {short, 5, 100, 6, api.OK}, {gratis, 5, 0, 366 * 86400, api.OK}, {gratis, 86400, 0, 367 * 86400, api.OK}, {gratis, api.MaxTime - 1, 0, api.MaxTime, api.OK}, {gratis, api.MaxTime - 500000, 0, api.MaxTime, api.OK},
 		{night, 0, 0, 28800, api.OK}, {night, 0, 99, 28800, api.OK}, {night, 64800, 0, 7*86400 + 28800, api.OK}, {dear(), 0, api.MaxMoney, 1 << 19, api.OK}, {example(), 0, 1000, 86400, api.OK},
 		{example(), -1, -1, 0, api.ErrTime}, {example(), api.MaxTime, 5, 0, api.ErrTime}, {example(), 0, -1, 0, api.ErrMoney}, {example(), 0, api.MaxMoney + 1, 0, api.ErrMoney},
 	} {

@@ -166,6 +166,9 @@ func TestVoid(t *testing.T) {
 	if e != api.OK || len(r.Done) != 1 || !reflect.DeepEqual(r.Ledger.Entries[1:], []api.Entry{entry("a#1", api.MaxTime, "account:ann", -10, "revenue:s", 10)}) {
 		t.Error(r, int(e))
 	}
+	if x, e := Void(c, r, "b", -1); e != api.ErrTime || !reflect.DeepEqual(x, r) {
+		t.Error("a charge of 0 at no time", int(e))
+	}
 	r, e = Void(c, r, "b", 0)
 	if e != api.OK || len(r.Done) != 0 || len(r.Ledger.Entries) != 2 {
 		t.Error(r, int(e))

@@ -107,6 +107,9 @@ func TestReconcile(t *testing.T) {
 	a, b := pair()
 	a = send(a, "ann", rec(1, "k", 500))
 	x, y, n, e := Reconcile(a, b)
+	if x.Out != a.Out || y.Out != b.Out {
+		t.Error("a file without records is sent")
+	}
 	if e != api.OK || n != 0 || agency.Amount(y.Theirs, "k") != 500 || !Agree(x, y) || len(x.Waiting) != 0 {
 		t.Error(x, y, n, int(e))
 	}
@@ -124,7 +127,7 @@ func TestReconcile(t *testing.T) {
 		change func(x, y *api.Partner)
 		e      api.Errno
 	}{
-		{func(x, y *api.Partner) { x.Name = "Bob" }, api.ErrName}, {func(x, y *api.Partner) { x.Out = 0 }, api.ErrSeq}, {func(x, y *api.Partner) { x.Out = 7 }, api.ErrSeq}, {func(x, y *api.Partner) { y.In = 7 }, api.ErrSeq}, {func(x, y *api.Partner) { y.Theirs = slices.Repeat([]api.Record{rec(4, "k", 0)}, api.MaxList) }, api.ErrLimit}, {func(x, y *api.Partner) { x.Waiting = []api.File{{}} }, api.ErrName},
+		{func(x, y *api.Partner) { x.Name = "Bob" }, api.ErrName}, {func(x, y *api.Partner) { x.Out = 0 }, api.ErrSeq}, {func(x, y *api.Partner) { x.Out = 7 }, api.ErrSeq}, {func(x, y *api.Partner) { y.In = 7 }, api.ErrSeq}, {func(x, y *api.Partner) { y.Theirs = slices.Repeat([]api.Record{rec(4, "k", 0)}, api.MaxList) }, api.ErrLimit}, {func(x, y *api.Partner) { x.Waiting = []api.File{{}} }, api.ErrName}, {func(x, y *api.Partner) { x.Ours = slices.Repeat(x.Ours, api.MaxList) }, api.ErrLimit}, {func(x, y *api.Partner) { y.Ours = slices.Repeat(y.Ours, api.MaxList) }, api.ErrLimit},
 	} {
 		p, q := fresh.Partner(x), fresh.Partner(y)
 		z.change(&p, &q)

@@ -139,6 +139,14 @@ func TestMatrix(t *testing.T) {
 	if m := Matrix(tags, plates); !equal(m, api.Matrix{Cost: [][]int{{20, -1, -1}, {-1, 100, -1}}, Row: []int{200, 200}, Col: []int{200, 200, 200}}) {
 		t.Error(m)
 	}
+	// A pair that costs nothing is the least one; a pair that is not permitted does not matter, wherever it is.
+	free := [][]api.Seen{{read(2, 105, 1, 1000), read(2, 100, 1, 1000), read(2, 103, 1, 1000), read(2, 500, 1, 1000)}}
+	if m := Matrix(tags[:1], free); m.Cost[0][0] != 0 {
+		t.Error(m)
+	}
+	if m := Matrix([][]api.Seen{{read(1, 100, 1, 1000), read(1, 900, 1, 1000)}}, [][]api.Seen{{read(2, 101, 1, 1000), read(2, 700, 1, 1000)}}); m.Cost[0][0] != 10 {
+		t.Error(m)
+	}
 	if m := Matrix(nil, plates); !equal(m, api.Matrix{Col: []int{200, 200, 200}}) {
 		t.Error(m)
 	}

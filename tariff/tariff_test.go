@@ -5,6 +5,7 @@ import (
 	"math/rand"
 	"reflect"
 	"slices"
+	"strconv"
 	"testing"
 
 	"tollway/api"
@@ -48,6 +49,21 @@ func TestCheck(t *testing.T) {
 		if e := CheckAll([]api.Tariff{tariff}, top()); e != x.e {
 			t.Error("CheckAll", i, int(e))
 		}
+	}
+	full := example()
+	full.Bands, full.Rates = nil, nil
+	for i := range api.MaxList + 1 {
+		name := "b" + strconv.Itoa(i)
+		full.Bands = append(full.Bands, api.Band{Name: name, Window: api.Window{Days: 1, From: 0, To: 1}})
+		full.Rates = append(full.Rates, rate("a", "", 1, name, 5))
+	}
+	full.Bands, full.Rates = full.Bands[:api.MaxList], full.Rates[:api.MaxList]
+	if e := Check(full, top()); e != api.OK {
+		t.Error(int(e))
+	}
+	full.Rates = append(full.Rates, full.Rates[0])
+	if e := Check(full, top()); e != api.ErrLimit {
+		t.Error(int(e))
 	}
 	bad := top()
 	bad.Systems[1].Most = 0
